@@ -1,0 +1,1 @@
+"""Slideboxes: boxes that slide at calls."""
