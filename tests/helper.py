@@ -1,9 +1,22 @@
-"""Programs and ways of asking that several tests share."""
+"""Programs, traces, ways of asking and of looking at the package that several tests share."""
 
+import ast
+import builtins
+import pathlib
 import random
 
 from slideboxes.errors import Long
 from slideboxes.plain import run
+
+FOLDER = pathlib.Path(__file__).resolve().parent.parent / "slideboxes"
+# The builtins that ../shared/LANGUAGE.md lets the package use.
+BUILTINS = (
+    "len range enumerate zip min max sum abs sorted reversed int str bool bytes list tuple dict set frozenset "
+    "isinstance ord repr any all divmod iter next Exception ValueError TypeError KeyError IndexError LookupError "
+    "ZeroDivisionError ArithmeticError OverflowError RuntimeError NotImplementedError AttributeError StopIteration "
+    "NotImplemented super"
+).split()
+ALL_BUILTINS = dir(builtins)
 
 # The product of all numbers up to the argument, by the rest by 1000; calls itself once.
 FACTORS = (
@@ -166,6 +179,129 @@ def rounds_and_rules():
     return [(many, (spill, fetch)) for many in range(2, 9) for spill in range(1, many) for fetch in range(1, many)]
 
 
+def random_trace(chance, size, hands=4, deepest=60):
+    """So many events that can come, or fewer if all hands are over."""
+    depths = {hand: 0 for hand in range(hands)}
+    trace, hand = [], None
+    while depths and len(trace) < size:
+        if hand is None:
+            hand = chance.choice(list(depths))
+            trace.append(("pick", hand))
+            continue
+        words = ["call"] * 3 * (depths[hand] < deepest) + ["rest"] + ["back"] * 2
+        word = chance.choice(words)
+        if word == "back" and depths[hand] == 0:
+            word = chance.choice(("over", "rest"))
+        trace.append((word,))
+        depths[hand] += {"call": 1, "back": -1}.get(word, 0)
+        if word == "over":
+            del depths[hand]
+        if word in ("rest", "over"):
+            hand = None
+    return trace
+
+
+def down_and_up(depth):
+    """One hand that calls so deep, and goes back till it is over."""
+    return [("pick", 0)] + [("call",)] * depth + [("back",)] * depth + [("over",)]
+
+
+def expected_log(trace, many, choose):
+    """The log of a machine and its count of traps, by the events of the run: lists of calls that are in and out.
+
+    How many are moved at a trap is told by choose(word, most).
+    """
+    log, traps, last = [], 0, None
+    calls_in = []
+    calls_out = {hand: [0] for hand in range(4)}
+
+    def spill(count):
+        for call in calls_in[:count]:
+            log.append(("spill", last, call))
+            calls_out[last].append(call)
+        del calls_in[:count]
+
+    def fetch():
+        count = choose("fetch", min(len(calls_out[last]), many - 1))
+        for call in calls_out[last][::-1][:count]:
+            log.append(("fetch", last, call))
+            calls_in.insert(0, call)
+            calls_out[last].remove(call)
+
+    for event in trace:
+        if event[0] == "pick":
+            switch = event[1] != last
+            if switch:
+                spill(len(calls_in))
+            log.append(event)
+            if switch:
+                last = event[1]
+                traps += 1
+                fetch()
+        elif event[0] == "call":
+            call = calls_in[-1] + 1
+            if len(calls_in) == many - 1:
+                traps += 1
+                spill(choose("spill", len(calls_in)))
+            log.append(event)
+            calls_in.append(call)
+        else:
+            log.append(event)
+            if event[0] in ("back", "over"):
+                calls_in.pop()
+            if event[0] == "back" and not calls_in:
+                traps += 1
+                fetch()
+    return log, traps
+
+
+def moves_in(log):
+    """How many spills and how many fetches stand in a log."""
+    words = [row[0] for row in log]
+    return words.count("spill"), words.count("fetch")
+
+
+def events_of(log):
+    return [row for row in log if row[0] not in ("spill", "fetch")]
+
+
+def by_rule(rule):
+    return lambda word, most: min(rule[word == "fetch"], most)
+
+
+class Missing(Exception):
+    """The numbers of a plan are used up at a trap, at which so many could be moved at most."""
+
+    def __init__(self, most):
+        super().__init__(most)
+        self.most = most
+
+
+def by_numbers(numbers):
+    left = list(numbers)
+
+    def choose(word, most):
+        if not left:
+            raise Missing(most)
+        return left.pop(0)
+
+    return choose
+
+
+def all_plans(trace, many):
+    """All plans, as lists ascend, each with its spills and fetches; found by trying."""
+    plans, tried = [], [[]]
+    while tried:
+        plan = tried.pop()
+        try:
+            log, traps = expected_log(trace, many, by_numbers(plan))
+        except Missing as missing:
+            tried += [plan + [count] for count in range(missing.most, 0, -1)]
+        else:
+            plans.append((plan, *moves_in(log)))
+    return plans
+
+
 def refusal(error, asked, *arguments):
     """The refusal of that very class with which a call ends."""
     try:
@@ -175,3 +311,15 @@ def refusal(error, asked, *arguments):
             raise AssertionError(f"{type(refused).__name__} in the place of {error.__name__}") from refused
         return refused
     raise AssertionError(f"no {error.__name__}")
+
+
+def files():
+    return sorted(FOLDER.glob("*.py"))
+
+
+def trees():
+    return [(file, ast.parse(file.read_text())) for file in files()]
+
+
+def nodes(kind):
+    return [(file, node) for file, tree in trees() for node in ast.walk(tree) if isinstance(node, kind)]

@@ -2,8 +2,12 @@ import inspect
 import unittest
 
 from slideboxes import errors
+from slideboxes.cheapest import cheapest, least_round
+from slideboxes.judging import judged
 from slideboxes.machine import Machine, slid
 from slideboxes.making import made, unmade
+from slideboxes.moves import by_plan, moved
+from slideboxes.notes import read, written
 from slideboxes.plain import run, traced
 
 WITH_ROWS = ("BadProgram", "BadCode")
@@ -38,6 +42,13 @@ class Errors(unittest.TestCase):
             (unmade, ["code"]),
             (Machine, ["code", "hands", "many", "rule"]),
             (slid, ["code", "hands", "order", "many", "rule"]),
+            (moved, ["trace", "many", "rule"]),
+            (by_plan, ["trace", "many", "plan"]),
+            (cheapest, ["trace", "many", "cost"]),
+            (least_round, ["trace", "most"]),
+            (judged, ["trace", "many", "log"]),
+            (written, ["program"]),
+            (read, ["text"]),
         ):
             self.assertEqual(list(inspect.signature(asked).parameters), names)
 

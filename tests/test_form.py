@@ -1,36 +1,16 @@
 """The form of the package: what of ../shared/LANGUAGE.md a short look at the files can tell."""
 
 import ast
-import builtins
-import pathlib
 import re
 import unittest
 
-FOLDER = pathlib.Path(__file__).resolve().parent.parent / "slideboxes"
+from tests.helper import ALL_BUILTINS, BUILTINS, FOLDER, files, nodes, trees
+
 BARRED = (
     "type", "typing", "typing_extensions", "enum", "Enum", "IntEnum", "StrEnum", "Flag", "IntFlag", "Generic",
     "Protocol", "ABC", "ABCMeta", "namedtuple", "NamedTuple", "TypedDict", "TYPE_CHECKING", "abstractmethod",
 )
 BARRED_PARTS = ("dataclass", "overload", "contextmanager")
-BUILTINS = (
-    "len range enumerate zip min max sum abs sorted reversed int str bool bytes list tuple dict set frozenset "
-    "isinstance ord repr any all divmod iter next Exception ValueError TypeError KeyError IndexError LookupError "
-    "ZeroDivisionError ArithmeticError OverflowError RuntimeError NotImplementedError AttributeError StopIteration "
-    "NotImplemented super"
-).split()
-ALL_BUILTINS = dir(builtins)
-
-
-def files():
-    return sorted(FOLDER.glob("*.py"))
-
-
-def trees():
-    return [(file, ast.parse(file.read_text())) for file in files()]
-
-
-def nodes(kind):
-    return [(file, node) for file, tree in trees() for node in ast.walk(tree) if isinstance(node, kind)]
 
 
 class Form(unittest.TestCase):

@@ -2,6 +2,7 @@ import unittest
 
 from slideboxes.errors import BadProgram
 from slideboxes.making import made
+from slideboxes.notes import written
 from slideboxes.plain import run, traced
 from tests.helper import ALL_KINDS, refusal
 
@@ -17,13 +18,14 @@ def with_row(row, behind=0):
 
 class BadPrograms(unittest.TestCase):
     def bad(self, program, function, row):
-        for asked, arguments in ((run, ([(0, ())], [])), (traced, ([(0, ())], [])), (made, ())):
+        for asked, arguments in ((run, ([(0, ())], [])), (traced, ([(0, ())], [])), (made, ()), (written, ())):
             refused = refusal(BadProgram, asked, program, *arguments)
             self.assertEqual((refused.function, refused.row), (function, row), program)
 
     def good(self, program):
         run(program, [(0, (0,) * program[0][0])], [])
         made(program)
+        written(program)
 
     def test_none_and_nine(self):
         self.bad((), 0, -1)

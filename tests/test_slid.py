@@ -4,55 +4,11 @@ from slideboxes.errors import BadCode, BadHands, BadOrder, BadRound, BadRule, Lo
 from slideboxes.machine import Machine, slid
 from slideboxes.making import made
 from slideboxes.plain import run, traced
-from tests.helper import SAMPLES, STAIRS, random_samples, refusal, rounds_and_rules
+from tests.helper import SAMPLES, STAIRS, by_rule, expected_log, moves_in, random_samples
+from tests.helper import refusal, rounds_and_rules
 
 EMPTY = ((0, ()),)
 DEEP = ((1, (("num", 4, 1), ("skip", 0, 2), ("less", 12, 0, 4), ("call", 0))),)
-
-
-def expected_log(trace, many, rule):
-    """The log of a machine and its count of traps, by the events of the run: lists of calls that are in and out."""
-    log, traps, last = [], 0, None
-    calls_in = []
-    calls_out = {hand: [0] for hand in range(4)}
-
-    def spill(count):
-        for call in calls_in[:count]:
-            log.append(("spill", last, call))
-            calls_out[last].append(call)
-        del calls_in[:count]
-
-    def fetch():
-        for call in calls_out[last][::-1][:rule[1]]:
-            log.append(("fetch", last, call))
-            calls_in.insert(0, call)
-            calls_out[last].remove(call)
-
-    for event in trace:
-        if event[0] == "pick":
-            switch = event[1] != last
-            if switch:
-                spill(len(calls_in))
-            log.append(event)
-            if switch:
-                last = event[1]
-                traps += 1
-                fetch()
-        elif event[0] == "call":
-            call = calls_in[-1] + 1
-            if len(calls_in) == many - 1:
-                traps += 1
-                spill(rule[0])
-            log.append(event)
-            calls_in.append(call)
-        else:
-            log.append(event)
-            if event[0] in ("back", "over"):
-                calls_in.pop()
-            if event[0] == "back" and not calls_in:
-                traps += 1
-                fetch()
-    return log, traps
 
 
 class Slid(unittest.TestCase):
@@ -76,10 +32,9 @@ class Slid(unittest.TestCase):
             machine = Machine(made(program), hands, many, rule)
             for hand in order:
                 machine.pick(hand)
-            log, traps = expected_log(traced(program, hands, order), many, rule)
+            log, traps = expected_log(traced(program, hands, order), many, by_rule(rule))
             self.assertEqual(machine.log(), log)
-            words = [row[0] for row in log]
-            self.assertEqual(machine.counts(), (words.count("spill"), words.count("fetch"), traps))
+            self.assertEqual(machine.counts(), (*moves_in(log), traps))
 
     def test_a_code_that_is_not_made(self):
         code = ((1, (("say", 0), ("say", 4), ("rest",), ("num", 12, 3), ("call", 1), ("say", 12))),
