@@ -96,8 +96,8 @@ class Logs(unittest.TestCase):
             (), ("call", 0), ("back", 0), ("rest", 0), ("over", 0), ("pick",), ("pick", 0, 0), ("pick", 4),
             ("pick", -1), ("pick", True), ("no",), ("",), (0,), "call", 0, ((),), ("spill",), ("spill", 0),
             ("spill", 0, 0, 0), ("fetch",), ("fetch", 0), ("fetch", 0, 0, 0), ("spill", 4, 0),
-            ("spill", -1, 0), ("fetch", 4, 0), ("fetch", -1, 0), ("spill", 0, 61), ("spill", 0, -1), ("fetch", 0, 61), ("fetch", 0, -1),
-            ("Fetch", 0, 0), ("pick", 0, 60), ("call", 0, 0), ("fetch", "0", 0), ("fetch", 0, "0"), ("spill", (), ()),
+            ("spill", -1, 0), ("fetch", 4, 0), ("fetch", -1, 0), ("spill", 0, 61), ("spill", 0, -1), ("fetch", 0, 61),
+            ("fetch", 0, -1), ("Fetch", 0, 0), ("pick", 0, 60), ("call", 0, 0), ("fetch", "0", 0), ("fetch", 0, "0"), ("spill", (), ()),
             ("move", 0, 0),
         ):
             self.bad([row], 0)
