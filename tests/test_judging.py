@@ -97,8 +97,8 @@ class Logs(unittest.TestCase):
             ("pick", -1), ("pick", True), ("no",), ("",), (0,), "call", 0, ((),), ("spill",), ("spill", 0),
             ("spill", 0, 0, 0), ("fetch",), ("fetch", 0), ("fetch", 0, 0, 0), ("spill", 4, 0),
             ("spill", -1, 0), ("fetch", 4, 0), ("fetch", -1, 0), ("spill", 0, 61), ("spill", 0, -1), ("fetch", 0, 61),
-            ("fetch", 0, -1), ("Fetch", 0, 0), ("pick", 0, 60), ("call", 0, 0), ("fetch", "0", 0), ("fetch", 0, "0"), ("spill", (), ()),
-            ("move", 0, 0),
+            ("fetch", 0, -1), ("Fetch", 0, 0), ("pick", 0, 60), ("call", 0, 0), ("fetch", "0", 0), ("fetch", 0, "0"),
+            ("spill", (), ()), ("move", 0, 0),
         ):
             self.bad([row], 0)
             self.bad([PICK[0], fetch(0), row, ("no",)], 2)
